@@ -1,0 +1,1 @@
+"""Rowpack: rows of whole numbers written short."""
