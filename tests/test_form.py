@@ -21,7 +21,8 @@ def trees():
 
 class TestForm(unittest.TestCase):
     def test_there_are_files_to_look_at(self):
-        self.assertIn("figures.py", [path.name for path in FILES])
+        names = [path.name for path in FILES]
+        self.assertEqual(names, ["__init__.py", "errors.py", "figures.py", "packing.py", "runs.py"])
 
     def test_only_the_packages_own_files_are_drawn_from(self):
         for name, tree in trees():
